@@ -42,9 +42,7 @@ func (v Vec) compare(u Vec) int {
 	return cmp.Or(cmp.Compare(v.X, u.X), cmp.Compare(v.Y, u.Y))
 }
 
-func (v Vec) text() string {
-	return strconv.FormatInt(v.X, 10) + "," + strconv.FormatInt(v.Y, 10)
-}
+func (v Vec) text() string { return numbersText(v.X, v.Y) }
 
 // isWithin compares with both ends instead of taking an absolute value, which the least int64 does
 // not have.
@@ -73,6 +71,31 @@ func readNumber(s string) (int64, bool) {
 		return 0, false
 	}
 	return n, true
+}
+
+func numbersText(numbers ...int64) string {
+	var parts []string
+	for _, n := range numbers {
+		parts = append(parts, strconv.FormatInt(n, 10))
+	}
+	return strings.Join(parts, ",")
+}
+
+// readNumbers reads a text of just so many numbers; there are none beside false.
+func readNumbers(s string, count int) ([]int64, bool) {
+	parts := strings.Split(s, ",")
+	if len(parts) != count {
+		return nil, false
+	}
+	var numbers []int64
+	for _, part := range parts {
+		n, ok := readNumber(part)
+		if !ok {
+			return nil, false
+		}
+		numbers = append(numbers, n)
+	}
+	return numbers, true
 }
 
 // IsVec reports whether v is valid.
@@ -148,11 +171,12 @@ func VecText(v Vec) string {
 // ReadVec returns the valid vector with the text s, and true, or the zero value and false if
 // there is none.
 func ReadVec(s string) (Vec, bool) {
-	left, right, _ := strings.Cut(s, ",")
-	x, isX := readNumber(left)
-	y, isY := readNumber(right)
-	v := Vec{X: x, Y: y}
-	if !isX || !isY || !v.isValid() {
+	numbers, ok := readNumbers(s, 2)
+	if !ok {
+		return Vec{}, false
+	}
+	v := Vec{X: numbers[0], Y: numbers[1]}
+	if !v.isValid() {
 		return Vec{}, false
 	}
 	return v, true
