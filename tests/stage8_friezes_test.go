@@ -882,16 +882,19 @@ func checkFriezeIsNew(t *testing.T, name string, call func() (impl.Frieze, int64
 	checkIsNew(t, name, func() []int64 { g, _ := call(); return g.Cells }, -7)
 }
 
-// checkCellsAreKept calls with cells that have spare capacity, and checks them and what is behind them.
+// checkNumbersAreKept calls with numbers that have spare capacity, and checks them and what is behind them.
+func checkNumbersAreKept(t *testing.T, name string, numbers []int64, call func([]int64)) {
+	t.Helper()
+	whole := append(slices.Clone(numbers), slices.Repeat([]int64{-7}, 200)...)
+	want := slices.Clone(whole)
+	if call(whole[:len(numbers)]); !slices.Equal(whole, want) {
+		t.Errorf("%s changes its argument %v", name, want[:len(numbers)])
+	}
+}
+
 func checkCellsAreKept(t *testing.T, name string, f impl.Frieze, call func(impl.Frieze)) {
 	t.Helper()
-	count := len(f.Cells)
-	whole := append(slices.Clone(f.Cells), slices.Repeat([]int64{-7}, 200)...)
-	want := slices.Clone(whole)
-	f.Cells = whole[:count]
-	if call(f); !slices.Equal(whole, want) {
-		t.Errorf("%s changes its argument %v", name, want[:count])
-	}
+	checkNumbersAreKept(t, name, f.Cells, func(cells []int64) { f.Cells = cells; call(f) })
 }
 
 func TestFriezesShareNoMemory(t *testing.T) {
